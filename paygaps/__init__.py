@@ -1,0 +1,1 @@
+"""Paygaps: what can be paid with these coins."""
