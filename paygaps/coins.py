@@ -1,9 +1,10 @@
 """Coins, their payings, and what they share."""
 
-from paygaps.errors import NoCoins, NoPaying, NoSum
+from paygaps.errors import NoCoins, NoPaying, NoSum, TooMany
 
 MOST_COINS = 40
 GREATEST_COIN = 1000
+GREATEST_LISTED_SUM = 2000
 
 
 def is_number(thing):
@@ -35,6 +36,16 @@ def check_paying(coins, paying):
 def check_sum(amount):
     if not is_number(amount):
         raise NoSum("an amount is a number")
+
+
+def check_sum_from(least, amount):
+    if not is_number(amount) or amount < least:
+        raise NoSum(f"this is no number from {least} on")
+
+
+def check_listed(amount):
+    if amount > GREATEST_LISTED_SUM:
+        raise TooMany("sums above 2000 are not gone through")
 
 
 def coin_list(coins):

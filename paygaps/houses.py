@@ -36,10 +36,13 @@ def with_coin(sums, coin):
 def lower_next(sums, place, coin):
     if sums[place] is None:
         return
-    amount = sums[place] + coin
-    goal = amount % len(sums)
-    if sums[goal] is None or amount < sums[goal]:
-        sums[goal] = amount
+    lower_rest(sums, sums[place] + coin)
+
+
+def lower_rest(sums, amount):
+    rest = amount % len(sums)
+    if sums[rest] is None or amount < sums[rest]:
+        sums[rest] = amount
 
 
 def is_house(numbers):

@@ -82,6 +82,42 @@ def payable_sums(coins, most):
     return truths
 
 
+def small_houses():
+    """The houses of small coins, each once, with some that need coins of other worths."""
+    houses = [[0], [0, 3], [0, 41], [0, 31, 17], [0, 13, 14, 15], [0] + list(range(10, 18)), [0] + list(range(21, 30))]
+    for coins in small_coin_lists():
+        if share(coins) == 1:
+            house = house_by_truths(payable_sums(coins, 100))
+            if house not in houses:
+                houses.append(house)
+    return houses
+
+
+def great_houses():
+    """Houses of some hundred numbers up to nearly a million, with needed coins of any number and worth."""
+    return [
+        [1000 * rest for rest in range(999)],
+        [1001 * rest for rest in range(1000)],
+        [0] + list(range(1001, 2000)),
+        [0] + list(range(999001, 1000000)),
+        [0, 999999],
+        [0, 700000, 800000],
+        house_by_truths(payable_sums([360, 840, 997], 200000)),
+        house_by_truths(payable_sums(list(range(961, 1001)), 30000)),
+    ]
+
+
+def house_truths(house, most):
+    """For each sum from 0 to most whether it can be paid in the house."""
+    return [amount >= house[amount % len(house)] for amount in range(most + 1)]
+
+
+def house_by_truths(truths):
+    """The house of these sums, which must go on until each rest has come."""
+    size = truths.index(True, 1)
+    return [truths[rest::size].index(True) * size + rest for rest in range(size)]
+
+
 class Case(unittest.TestCase):
     def refused(self, kind, call, *handed):
         """The refusal of a call, which is of this one class and of none beside it."""
@@ -97,6 +133,12 @@ class Case(unittest.TestCase):
 
     def assert_number(self, thing):
         self.assertIs(type(thing), int)
+
+    def assert_paying(self, coins, paying, amount):
+        self.assert_numbers(paying)
+        self.assertEqual(len(paying), len(coins))
+        self.assertGreaterEqual(min(paying), 0)
+        self.assertEqual(sum(coin * times for coin, times in zip(coins, paying)), amount, coins)
 
     def assert_numbers(self, things):
         self.assertIs(type(things), list)

@@ -3,7 +3,8 @@
 from paygaps.errors import NoCoins, NoSum, Shared, TooMany
 from paygaps.houses import gap_list, gap_number, greatest_gap, house_of, is_house, pays
 from tests.helping import (
-    NO_NUMBERS, SHARED_COINS, WRONG_COINS, Case, payable_sums, share, small_coin_lists, unshared_coin_lists,
+    NO_NUMBERS, SHARED_COINS, WRONG_COINS, Case, great_houses, payable_sums, share, small_coin_lists, small_houses,
+    unshared_coin_lists,
 )
 
 # Unlike those of coins up to 1000, these have needed coins of other worths.
@@ -80,7 +81,7 @@ class IsHouse(Case):
         self.assertIs(is_house(numbers), truth, numbers)
 
     def test_houses(self):
-        for house in OTHER_HOUSES:
+        for house in OTHER_HOUSES + small_houses() + great_houses():
             self.assert_is(True, house)
         for coins in unshared_coin_lists():
             self.assert_is(True, house_of(coins))

@@ -31,6 +31,16 @@ def is_text(statement):
     return isinstance(statement, ast.Expr) and isinstance(statement.value, ast.Constant)
 
 
+def defined_names(path):
+    names = []
+    for part in ast.parse(path.read_text()).body:
+        if isinstance(part, (ast.FunctionDef, ast.ClassDef)):
+            names.append(part.name)
+        if isinstance(part, ast.Assign):
+            names.append(part.targets[0].id)
+    return names
+
+
 class Language(unittest.TestCase):
     def each_tree(self):
         for path in files():
@@ -103,9 +113,8 @@ class Language(unittest.TestCase):
                     self.assertIn(node, tree.body)
                     self.assertEqual(node.level, 0)
                     source = PACKAGE / (node.module.removeprefix("paygaps.") + ".py")
-                    defined = [part.name for part in ast.parse(source.read_text()).body if hasattr(part, "name")]
                     for alias in node.names:
-                        self.assertIn(alias.name, defined)
+                        self.assertIn(alias.name, defined_names(source))
 
     def test_names(self):
         own = set(OWN_NAMES)

@@ -3,8 +3,12 @@
 from copy import deepcopy
 
 from paygaps.coins import coin_list, share_of, sum_paid
+from paygaps.fewest import fewest, fewest_list, greedy, greedy_always
 from paygaps.houses import gap_list, gap_number, greatest_gap, house_of, is_house, pays
+from paygaps.needed import needed_coins, needless_coins
 from paygaps.payings import papers_of, paying_of
+from paygaps.together import common, divided, filled, joined, mixed
+from paygaps.ways import rule_of, ways_by, ways_list
 from tests.helping import Case
 
 HOUSE = [0, 21, 7, 28, 14]
@@ -27,10 +31,43 @@ CALLS = [
     (paying_of, ([8, 4, 6], 40)),
     (paying_of, ([7, 5], 0)),
     (papers_of, ([7, 5, 9],)),
+    (needed_coins, (HOUSE,)),
+    (needed_coins, ([0],)),
+    (needless_coins, ([10, 4, 5, 20, 8],)),
+    (needless_coins, ([7, 5],)),
+    (ways_list, ([7, 5, 9], 40)),
+    (rule_of, ([4, 1, 6],)),
+    (rule_of, ([3],)),
+    (ways_by, ((2, 6, [1, 0, 1, 1, 1, 1, 0, 1, 0, 0, 0, 0]), 10 ** 59)),
+    (fewest_list, ([7, 5, 9], 40)),
+    (fewest, ([7, 5, 9], 40)),
+    (greedy, ([7, 5, 9], 40)),
+    (greedy, ([7, 5, 9], 0)),
+    (greedy_always, ([5, 10, 1],)),
+    (greedy_always, ([4, 3, 1],)),
+    (common, (HOUSE, HOUSE)),
+    (common, (HOUSE, [0])),
+    (common, ([0], HOUSE)),
+    (common, (HOUSE, [0, 9, 6, 15])),
+    (joined, (HOUSE, HOUSE)),
+    (joined, (HOUSE, [0])),
+    (joined, ([0, 9, 6, 15], HOUSE)),
+    (divided, (HOUSE, 1)),
+    (divided, (HOUSE, 3)),
+    (divided, ([0], 3)),
+    (filled, (HOUSE, 100)),
+    (filled, (HOUSE, 12)),
+    (filled, ([0], 12)),
+    (mixed, (HOUSE, 1, HOUSE, 1)),
+    (mixed, (HOUSE, 3, [0, 9, 6, 15], 5)),
+    (mixed, ([0], 1, HOUSE, 2)),
 ]
 
 
 def spoil(thing):
+    if isinstance(thing, tuple):
+        for part in thing:
+            spoil(part)
     if isinstance(thing, list):
         for part in thing:
             spoil(part)
@@ -68,3 +105,9 @@ class AloneInTheWorld(Case):
         for coins in [[7, 5, 9], [9, 8, 10, 11], [999, 1000]]:
             papers = papers_of(coins)
             self.assertEqual(len({id(paper) for paper in papers}), len(papers))
+
+    def test_no_paying_of_one_answer_is_another_one(self):
+        payings = [told[1] for told in needless_coins([10, 4, 5, 20, 8, 12])]
+        self.assertEqual(len({id(paying) for paying in payings}), 4)
+        told = greedy_always([4, 3, 1])
+        self.assertIsNot(told[2], told[3])

@@ -43,10 +43,7 @@ class PayingOf(Case):
     def assert_pays(self, coins, amount):
         paying = paying_of(coins, amount)
         self.assertIsNotNone(paying, (coins, amount))
-        self.assert_numbers(paying)
-        self.assertEqual(len(paying), len(coins))
-        self.assertGreaterEqual(min(paying), 0)
-        self.assertEqual(sum(coin * times for coin, times in zip(coins, paying)), amount)
+        self.assert_paying(coins, paying, amount)
 
     def test_five_and_seven(self):
         self.assertEqual(paying_of([5, 7], 12), [1, 1])
