@@ -118,6 +118,17 @@ def house_by_truths(truths):
     return [truths[rest::size].index(True) * size + rest for rest in range(size)]
 
 
+def houses_gone_through(number):
+    """All houses with so many gaps, found among all lists of numbers, in the order of these lists."""
+    houses = []
+    # The gaps of a house lie below twice their number: of a number and its partner one is a gap.
+    for gaps in combinations(range(1, 2 * number), number):
+        truths = [amount not in gaps for amount in range(4 * number + 2)]
+        if not any(truths[part] and truths[gap - part] for gap in gaps for part in range(1, gap)):
+            houses.append(house_by_truths(truths))
+    return houses
+
+
 class Case(unittest.TestCase):
     def refused(self, kind, call, *handed):
         """The refusal of a call, which is of this one class and of none beside it."""

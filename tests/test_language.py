@@ -141,3 +141,27 @@ class Language(unittest.TestCase):
             for node in nodes:
                 if isinstance(node, ast.Call) and isinstance(node.func, ast.Attribute):
                     self.assertIn(node.func.attr, own)
+
+    def test_no_name_is_a_method_and_a_value(self):
+        methods, values = set(), set()
+        for _, _, nodes in self.each_tree():
+            for node in nodes:
+                if isinstance(node, ast.ClassDef):
+                    methods.update(part.name for part in node.body if isinstance(part, ast.FunctionDef))
+                if isinstance(node, ast.Attribute) and isinstance(node.ctx, ast.Store):
+                    values.add(node.attr)
+        self.assertEqual(methods & values, set())
+        kept = set().union(*[dir(kind) for kind in (str, int, list, tuple, dict, set, bytes)])
+        self.assertEqual((methods - {"__init__"}) & kept, set())
+        self.assertEqual(values & kept, set())
+
+    def test_no_files_draw_from_one_another(self):
+        drawn = {}
+        for path, tree, _ in self.each_tree():
+            parts = [part.module for part in tree.body if isinstance(part, ast.ImportFrom)]
+            drawn[path.stem] = {part.removeprefix("paygaps.") for part in parts}
+        # Whatever draws from nothing that is left is taken away, until nothing is left.
+        while drawn:
+            free = [name for name, parts in drawn.items() if not parts & set(drawn)]
+            self.assertNotEqual(free, [], drawn)
+            drawn = {name: parts for name, parts in drawn.items() if name not in free}

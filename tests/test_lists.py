@@ -3,11 +3,16 @@
 from copy import deepcopy
 
 from paygaps.coins import coin_list, share_of, sum_paid
+from paygaps.errors import NoPaying, Unclosed
 from paygaps.fewest import fewest, fewest_list, greedy, greedy_always
+from paygaps.gaps import house_by_gaps
 from paygaps.houses import gap_list, gap_number, greatest_gap, house_of, is_house, pays
+from paygaps.mirrors import mirror_gap, mirror_pairs
 from paygaps.needed import needed_coins, needless_coins
 from paygaps.payings import papers_of, paying_of
+from paygaps.till import fewest_held
 from paygaps.together import common, divided, filled, joined, mixed
+from paygaps.tree import children_of, houses_with, parent_of
 from paygaps.ways import rule_of, ways_by, ways_list
 from tests.helping import Case
 
@@ -61,6 +66,22 @@ CALLS = [
     (mixed, (HOUSE, 1, HOUSE, 1)),
     (mixed, (HOUSE, 3, [0, 9, 6, 15], 5)),
     (mixed, ([0], 1, HOUSE, 2)),
+    (mirror_pairs, (HOUSE,)),
+    (mirror_pairs, ([0],)),
+    (mirror_pairs, ([0, 7, 5],)),
+    (mirror_gap, ([0, 7, 5],)),
+    (house_by_gaps, ([4, 1, 2],)),
+    (house_by_gaps, ([],)),
+    (parent_of, (HOUSE,)),
+    (parent_of, ([0, 3],)),
+    (children_of, ([0, 4, 5],)),
+    (children_of, ([0],)),
+    (houses_with, (0,)),
+    (houses_with, (1,)),
+    (houses_with, (4,)),
+    (fewest_held, ([7, 5, 9], [3, 2, 1], 23)),
+    (fewest_held, ([7, 5, 9], [3, 2, 1], 0)),
+    (fewest_held, ([7, 5, 9], [3, 2, 1], 1)),
 ]
 
 
@@ -111,3 +132,15 @@ class AloneInTheWorld(Case):
         self.assertEqual(len({id(paying) for paying in payings}), 4)
         told = greedy_always([4, 3, 1])
         self.assertIsNot(told[2], told[3])
+
+    def test_no_house_of_one_answer_is_another_one(self):
+        for houses in [children_of([0, 4, 5]), children_of([0] + list(range(10, 18))), houses_with(4)]:
+            self.assertEqual(len({id(house) for house in houses}), len(houses))
+
+    def test_a_refusal_leaves_lists_as_they_were(self):
+        gaps = [7, 2, 1]
+        self.refused(Unclosed, house_by_gaps, gaps)
+        self.assertEqual(gaps, [7, 2, 1])
+        counts = [101, 0]
+        self.refused(NoPaying, fewest_held, [5, 7], counts, 5)
+        self.assertEqual(counts, [101, 0])
